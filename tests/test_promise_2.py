@@ -3,6 +3,7 @@
 import unittest
 
 from tests.line import CLEAR, HOLDS, TAKE, TOP, WRONG, begin, die, grind, last, put, rod, row, run, told, want, wide
+from wiredies.bench import Bench
 
 
 def goes(rod_width, width, most):
@@ -212,6 +213,16 @@ class Wrong(unittest.TestCase):
 
     def test_need_not_be_as_wanted(self):
         self.assertEqual(last(*self.two, want(5000, 0), WRONG), -33)
+
+    def test_the_first_of_all_places(self):
+        # No line comes to such rows, as run refuses them: the bench itself is asked.
+        bench = Bench()
+        bench.begin(1000, 500, 900, 0)
+        for widths, place in (
+                ([900, 800, 700], None), ([900, 900, 700], 1), ([900, 800, 800], 2), ([900, 901, 902], 1),
+                ([900, 800, 500], 2), ([1000, 1000, 1000], 0), ([], None)):
+            with self.subTest(widths=widths):
+                self.assertEqual(bench.wrong_place(widths), place)
 
     def test_it_changes_nothing(self):
         calls = self.two + [rod(900), WRONG, WRONG]
