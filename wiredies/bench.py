@@ -14,6 +14,7 @@ class Bench:
         self.off = 0
         self.dies = []
         self.row = []
+        self.metres_drawn = 0
 
     def begin(self, rod, most, want, off):
         self.begun = True
@@ -23,10 +24,18 @@ class Bench:
         self.off = off
         self.dies = []
         self.row = []
+        self.metres_drawn = 0
+
+    def has_die(self, number):
+        return number < len(self.dies)
+
+    def widths_of(self, row):
+        """How wide the dies of some row are, in order."""
+        return [self.dies[number].wide() for number in row]
 
     def widths(self):
         """How wide the dies of the row are, in order."""
-        return self.widths_after(0)
+        return self.widths_of(self.row)
 
     def widths_after(self, metres):
         """How wide the dies of the row would be behind a run with so many metres of rod."""
@@ -39,6 +48,10 @@ class Bench:
     def wide_out(self, widths):
         """How wide what comes out of a row of such widths is."""
         return widths[-1] if widths else self.rod
+
+    def wide_ahead(self, place):
+        """How wide what comes to the die at that place of the row is."""
+        return self.wide_out(self.widths()[:place])
 
     def reaches(self, width):
         """Whether by one die more wire goes to that width from what comes out now."""
@@ -67,3 +80,25 @@ class Bench:
         for number in self.row:
             die = self.dies[number]
             die.draw(metres_through(metres, self.rod, die.wide()))
+        self.metres_drawn += metres
+
+    def fewest_dies(self):
+        """The row of the fewest dies that holds, of like ones the first by numbers; None if no row does."""
+        rows = [[]]
+        while rows:
+            for row in rows:
+                if self.holds(self.widths_of(row)):
+                    return row
+            rows = self.rows_one_longer(rows)
+        return None
+
+    def rows_one_longer(self, rows):
+        """These rows, each with every die more to which wire goes from it; by numbers, as these are."""
+        longer = []
+        for row in rows:
+            before = self.wide_out(self.widths_of(row))
+            # No die comes twice, as wire goes only to a narrower one.
+            for number, die in enumerate(self.dies):
+                if goes(before, die.wide(), self.most):
+                    longer.append(row + [number])
+        return longer

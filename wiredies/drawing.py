@@ -1,7 +1,7 @@
 """The calls on one bench, read from a list of whole numbers and answered in another."""
 
 from wiredies.bench import Bench
-from wiredies.dies import Die
+from wiredies.dies import Die, least_width, part_taken
 
 BEGIN = 0
 
@@ -21,6 +21,7 @@ GREATEST_MOST = 500
 GREATEST_OFF = 1000
 GREATEST_LIFE = 100000
 GREATEST_RUN = 20000
+STEP_OF_RUNS = 100
 DIES_AT_MOST = 8
 
 
@@ -58,7 +59,7 @@ def add_die(bench, given):
 def grind(bench, given):
     number = given[0]
     width = given[1]
-    if number >= len(bench.dies):
+    if not bench.has_die(number):
         return [NO_SUCH_DIE]
     if not is_width(width):
         return [OUT_OF_BOUNDS]
@@ -94,7 +95,7 @@ def change_want(bench, given):
 
 def put(bench, given):
     number = given[0]
-    if number >= len(bench.dies):
+    if not bench.has_die(number):
         return [NO_SUCH_DIE]
     if number in bench.row:
         return [DIE_IN_ROW]
@@ -126,25 +127,116 @@ def tell_wrong(bench, given):
     return [NOT_AS_IT_STANDS if place is None else place]
 
 
+def run_refusal(bench, metres):
+    """With what a run is refused; None if it isn't."""
+    if not 1 <= metres <= GREATEST_RUN:
+        return OUT_OF_BOUNDS
+    if not bench.holds(bench.widths()):
+        return NOT_AS_IT_STANDS
+    if not bench.holds(bench.widths_after(metres)):
+        return WOULD_NOT_HOLD
+    return None
+
+
 def run(bench, given):
     metres = given[0]
-    if not 1 <= metres <= GREATEST_RUN:
-        return [OUT_OF_BOUNDS]
-    if not bench.holds(bench.widths()):
-        return [NOT_AS_IT_STANDS]
-    if not bench.holds(bench.widths_after(metres)):
-        return [WOULD_NOT_HOLD]
+    refusal = run_refusal(bench, metres)
+    if refusal is not None:
+        return [refusal]
     # Told ahead of the drawing, which may make the last die wider.
     out = bench.metres_out(metres)
     bench.draw(metres)
     return [out]
 
 
-# By a call's number: what answers it.
-ANSWERED_BY = (begin, add_die, grind, change_rod, change_want, put, take, empty_row, tell_holds, tell_wrong, run)
+def tell_may(bench, given):
+    refusal = run_refusal(bench, given[0])
+    if refusal == OUT_OF_BOUNDS:
+        return [refusal]
+    return [1 if refusal is None else 0]
 
-# By a call's number: how many numbers follow it. All the calls of the interface
-# are here, as ahead of a begin each is read and answered alike.
+
+def tell_out(bench, given):
+    metres = given[0]
+    if metres > GREATEST_RUN:
+        return [OUT_OF_BOUNDS]
+    return [bench.metres_out(metres)]
+
+
+def tell_longest(bench, given):
+    if not bench.holds(bench.widths()):
+        return [NOT_AS_IT_STANDS]
+    # From the most on down, and none passed over: a run may be refused where a longer one isn't,
+    # as with more metres another die of the row has grown too.
+    for metres in range(GREATEST_RUN, 0, -STEP_OF_RUNS):
+        if bench.holds(bench.widths_after(metres)):
+            return [metres]
+    return [0]
+
+
+def tell_fewest(bench, given):
+    row = bench.fewest_dies()
+    if row is None:
+        return [NOT_AS_IT_STANDS]
+    return [len(row)] + row
+
+
+def set_row(bench, given):
+    row = bench.fewest_dies()
+    if row is None:
+        return [NOT_AS_IT_STANDS]
+    bench.row = row
+    return [len(row)]
+
+
+def tell_takes(bench, given):
+    place = given[0]
+    if place >= len(bench.row):
+        return [NO_SUCH_DIE]
+    before = bench.wide_ahead(place)
+    width = bench.widths()[place]
+    if before <= width:
+        return [NOT_AS_IT_STANDS]
+    return [0] + part_taken(before, width)
+
+
+def tell_least(bench, given):
+    width = given[0]
+    if not is_width(width):
+        return [OUT_OF_BOUNDS]
+    return [least_width(width, bench.most)]
+
+
+def tell_size(bench, given):
+    number = given[0]
+    if not bench.has_die(number):
+        return [NO_SUCH_DIE]
+    die = bench.dies[number]
+    return [die.wide(), die.ground, die.life, die.drawn]
+
+
+def tell_left(bench, given):
+    number = given[0]
+    if not bench.has_die(number):
+        return [NO_SUCH_DIE]
+    return [bench.dies[number].metres_left()]
+
+
+def tell_row(bench, given):
+    return [len(bench.row)] + bench.row
+
+
+def tell_sums(bench, given):
+    out = bench.wide_out(bench.widths())
+    return [bench.rod, bench.most, bench.want, bench.off, len(bench.dies), bench.metres_drawn, out]
+
+
+# By a call's number: what answers it.
+ANSWERED_BY = (
+    begin, add_die, grind, change_rod, change_want, put, take, empty_row, tell_holds, tell_wrong, run, tell_may,
+    tell_out, tell_longest, tell_fewest, set_row, tell_takes, tell_least, tell_size, tell_left, tell_row, tell_sums)
+
+# By a call's number: how many numbers follow it.
 FOLLOWED_BY = (4, 2, 2, 1, 2, 1, 0, 0, 0, 0, 1, 1, 1, 0, 0, 0, 1, 1, 1, 1, 0, 0)
 
 
